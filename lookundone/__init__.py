@@ -1,0 +1,1 @@
+"""Lookundone: a compiler and run-time of a one-way quantum computer."""

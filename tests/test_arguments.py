@@ -1,0 +1,274 @@
+"""[2], [12]: for every function how its arguments are passed, and which ones it refuses."""
+
+import copy
+import importlib
+import itertools
+
+from tests.common import EMPTY, H, LINE, NEVER, NO_WIRES, ONE_WIRE, PLUS, ROW, TRI, TWO, StrictCase
+
+EXACT = (3, -1, 0, 2)
+NO_INTEGERS = (None, True, False, "1", "", (), (1,), [1])
+NO_EXACTS = NEVER + (
+    (0, 0, 0), (0, 0, 0, 0, 0), [0, 0, 0, 0], (0, 0, 0, True), (False, 0, 0, 0), (0, "0", 0, 0), (0, 0, None, 0),
+)
+NO_TURNS = NO_INTEGERS + (-1, 8, 10 ** 30)
+NO_TABLES = NEVER + (
+    list(H), H[:3], H + (0,), (1, 1, True, H[3]), (1, 1, -1, H[3]), (True, 1, 1, H[3]), (1, True, 1, H[3]),
+    (1, 1, 1, list(H[3])), (1, 1, 1, (list(H[3][0]), H[3][1])), (1, 1, 1, H[3][:1]), (1, 1, 1, H[3] + H[3]),
+    (1, 1, 1, ONE_WIRE[3][:1] + (((0, 0, 0, 0),),)), (1, 1, 2, ((((2, 0, 0, 0),) * 2),) * 2),
+    (1, 1, 1, (((0, 0, 0, 0), (0, 0, 0, 0)),) * 2), (1, 1, 0, (((1, 0, 0, 0), (0, 0, 0, True)),) * 2),
+)
+NO_DOTS_OF_ROW = NO_INTEGERS + (-1, 3, 9999, 10000)
+NO_LOTS = (None, True, 0, "", [], [0], (True,), (False,), (1, 0), (1, 1), (-1,), (10000,), ("0",), ((0,),))
+NO_LOTS_OF_ROW = NO_LOTS + ((0, 3), (9999,))
+NO_WEBS = NEVER + (list(ROW), ROW[:3], ROW + ((),), ((1, 0), (), (), ()), ((0,), (), (1,), ()), ((0,), (), (True,), ()))
+NO_PLANS = NEVER + NO_WEBS + (
+    ROW, [ROW, (0, 0, 0)], (ROW, (0, 0)), (ROW, (0, 0, 0, 0)), (ROW, [0, 0, 0]), (ROW, (0, 0, 8)), (ROW, (0, True, 0)),
+    (ROW, (0, 0, -1)), (ROW, (0, 0, 0), ()),
+)
+NO_CIRCUITS = NEVER + (
+    (7, ()), (-1, ()), (True, ()), (1, []), [1, ()], (1, (("h", 1),)), (1, (("h", True),)), (1, (("turn", 0, 0),)),
+    (2, (("cz", 1, 1),)), (1, (), ()), (1, (("t", 0),)),
+)
+NO_BITS_OF_ONE = (None, 0, 1, (), (2,), (-1,), (True,), (False,), [0], (0, 0), ("0",), (None,))
+NO_TURNS_OF_ONE = NO_BITS_OF_ONE[:4] + ((8,), (-1,), (True,), (False,), [0], (0, 0), ("0",))
+BOOK = (
+    ("part", "p", (("a", 0), ("q", 2)), (("use", "f", (("wire", "a"),)),)),
+    ("part", "f", (("b", 0),), (("gate", "h", (("wire", "b"),)),)),
+    ("part", "wide", (("q", 6), ("a", 0)), ()),
+    ("part", "wires", tuple((name, 0) for name in "abcdefg"), ()),
+)
+NO_PARTS = NEVER + ("none", "P", "wide", "wires", "part", b"p", ("p",), ["p"])
+EXPR = ("plus", ("num", 1), ("var", "i"))
+NO_WORTHS = (
+    None, 1, "i", [("i", 1)], (("i", 1), ["i", 1]), ("i", 1), (("i",),), (("i", 1, 1),), (("i", True),),
+    (("i", "1"),), ((1, 1),), (("I", 1),), (("end", 1),), (("", 1),), (("i", None),), (("abcdefghijklm", 1),), {},
+)
+
+# Each case: the file, the function, its arguments, and wrong values of the parameters that are asked for.
+CASES = (
+    ("kinds", "is_integer", {"thing": 1}, {}),
+    ("kinds", "is_number", {"thing": 1}, {}),
+    ("kinds", "is_turn", {"thing": 1}, {}),
+    ("kinds", "is_exact", {"thing": EXACT}, {}),
+    ("kinds", "is_lot", {"thing": (1, 2)}, {}),
+    ("kinds", "is_bits", {"many": 2, "thing": (1, 0)}, {}),
+    ("exacts", "plus", {"one": EXACT, "other": (1, 2, 3, 4)}, {"other": NO_EXACTS}),
+    ("exacts", "minus", {"one": EXACT, "other": (1, 2, 3, 4)}, {"other": NO_EXACTS}),
+    ("exacts", "times", {"one": EXACT, "other": (1, 2, 3, 4)}, {"other": NO_EXACTS}),
+    ("exacts", "mirror_of", {"exact": EXACT}, {}),
+    ("exacts", "unit", {"turn": 5}, {}),
+    ("exacts", "turn_of", {"exact": (0, 0, 1, 0)}, {}),
+    ("exacts", "by_root", {"exact": (2, 0, 0, 0)}, {}),
+    ("sizes", "size_of", {"exact": EXACT}, {}),
+    ("sizes", "sign_of", {"whole": 3, "part": -2}, {"part": NO_INTEGERS}),
+    ("tables", "is_table", {"thing": H}, {}),
+    (
+        "tables", "table_of", {"outs": 1, "ins": 1, "power": 3, "rows": H[3]},
+        {
+            "outs": NO_INTEGERS + (-1, 13, 10 ** 30),
+            "ins": NO_INTEGERS + (-1, 13, 10 ** 30),
+            "power": NO_INTEGERS + (-61, 61, 10 ** 30),
+            "rows": NEVER + (
+                list(H[3]), (list(H[3][0]), H[3][1]), H[3][:1], H[3] + H[3], (H[3][0], H[3][1][:1]),
+                (H[3][0], H[3][0] + H[3][1]), (H[3][0], ((0, 0, 0, 0), (0, 0, 0))), (H[3][0], ((0, 0, 0, 0), [0] * 4)),
+                (H[3][0], ((0, 0, 0, 0), (0, 0, 0, True))), (H[3][0], ((0, 0, 0, 0), 0)),
+            ),
+        },
+    ),
+    ("tables", "one_table", {"many": 2}, {}),
+    ("tables", "nought_table", {"outs": 1, "ins": 2}, {"ins": NO_INTEGERS + (-1, 7, 10 ** 30)}),
+    (
+        "tables", "entry_at", {"table": TWO, "y": 1, "x": 0},
+        {"y": NO_INTEGERS + (-1, 2, 10 ** 30), "x": NO_INTEGERS + (-1, 1, 10 ** 30)},
+    ),
+    ("products", "chained", {"first": TWO, "second": H}, {"second": NO_TABLES + (TWO, NO_WIRES)}),
+    ("products", "side_by_side", {"low": TWO, "high": H}, {"high": NO_TABLES}),
+    ("products", "mirrored", {"table": TWO}, {}),
+    ("products", "added", {"one": H, "other": ONE_WIRE}, {"other": NO_TABLES + (TWO, NO_WIRES)}),
+    ("scaling", "scaled", {"table": H, "many": -3}, {"many": NO_INTEGERS + (-61, 61, 10 ** 30)}),
+    ("scaling", "turned", {"table": H, "turn": 3}, {"turn": NO_TURNS}),
+    ("scaling", "negative", {"table": H}, {}),
+    (
+        "shifting", "shifted", {"table": H, "flips": (1,), "signs": (0,), "turns": (5,)},
+        {"flips": NO_BITS_OF_ONE, "signs": NO_BITS_OF_ONE, "turns": NO_TURNS_OF_ONE},
+    ),
+    ("shifting", "column_of", {"table": H, "x": 1}, {"x": NO_INTEGERS + (-1, 2, 10 ** 30)}),
+    ("shifting", "on_plus", {"table": H}, {}),
+    ("likeness", "is_nought", {"table": H}, {}),
+    ("likeness", "alike", {"one": H, "other": H}, {"other": NO_TABLES}),
+    ("likeness", "square_of", {"table": TWO}, {}),
+    ("likeness", "number_of", {"table": ONE_WIRE}, {}),
+    ("datatexts", "data_text", {"thing": (1, "a", ())}, {}),
+    ("datatexts", "read_data", {"text": "(1, (), (\"a\",))"}, {}),
+    ("booknames", "is_name", {"thing": "a"}, {}),
+    ("booknames", "is_book", {"thing": BOOK}, {}),
+    ("booknames", "part_names", {"book": BOOK}, {}),
+    ("exprs", "read_expr", {"text": "1 + i"}, {}),
+    ("exprs", "expr_text", {"expr": EXPR}, {}),
+    ("exprs", "is_expr", {"thing": EXPR}, {}),
+    ("exprs", "worth_of", {"expr": EXPR, "names": (("i", 4), ("j", 10 ** 30))}, {"names": NO_WORTHS}),
+    ("bookreader", "read_book", {"text": "part p a\nend"}, {}),
+    ("booktexts", "book_text", {"book": BOOK}, {}),
+    ("gatekinds", "is_circuit", {"thing": (1, (("h", 0),))}, {}),
+    (
+        "gatekinds", "circuit_of", {"wires": 2, "gates": (("cz", 0, 1), ("turn", 3, 1))},
+        {
+            "wires": NO_INTEGERS + (-1, 7, 10 ** 30),
+            "gates": (
+                None, 0, "", [], [("h", 0)], ("h", 0), (["h", 0],), (("h", 2),), (("h", -1),), (("h", True),),
+                (("h",),), (("h", 0, 1),), (("H", 0),), (("x", 0),), (("turn", 0, 0),), (("turn", 8, 0),),
+                (("turn", True, 0),), (("turn", 1, 2),), (("turn", 1),), (("cz", 0, 0),), (("cz", 0, 2),),
+                (("cz", 0, True),), (("cz", 0, 1, 2),), (("cz", 0),), (("ccz", 0, 1, 2),), ((1, 0, 1),), (((), 0, 1),),
+                (("cx", 1, 1),), (("swap", 1, 1),), (("swap", False, 1),), (None,), ((),), (("h", 0), None),
+            ),
+        },
+    ),
+    (
+        "gatekinds", "ccz_gates", {"one": 0, "other": 5, "third": 2},
+        {"other": NO_INTEGERS + (-1, 0, 6), "third": NO_INTEGERS + (-1, 0, 6)},
+    ),
+    (
+        "gatetables", "gate_table", {"wires": 2, "gate": ("cx", 1, 0)},
+        {"gate": NEVER + (["cx", 1, 0], ("cx", 1, 1), ("cx", 1, 2), ("cx", 1, False), ("h", 2), ("x", 0), ("turn", 0, 0),
+                          ("turn", 8, 0), ("turn", 1, 2), (("h", 0),))},
+    ),
+    ("gatetables", "plain_table", {"circuit": (2, (("h", 0), ("cx", 0, 1)))}, {}),
+    ("circuitchanges", "inverse", {"circuit": (2, (("h", 0), ("turn", 3, 1)))}, {}),
+    (
+        "circuitchanges", "chained_circuits", {"first": (2, (("h", 0),)), "second": (2, (("h", 1),))},
+        {"second": NO_CIRCUITS + ((1, ()), (3, ()), (0, ()))},
+    ),
+    (
+        "circuitchanges", "beside_circuits", {"low": (2, (("h", 0),)), "high": (4, (("cz", 3, 1),))},
+        {"high": NO_CIRCUITS + ((5, ()), (6, ()))},
+    ),
+    ("circuitchanges", "odd_turns", {"circuit": (1, (("turn", 3, 0),))}, {}),
+    ("circuitchanges", "h_number", {"circuit": (1, (("h", 0),))}, {}),
+    ("flattening", "flat", {"book": BOOK, "name": "p"}, {"name": NO_PARTS}),
+    ("flattening", "wire_names", {"book": BOOK, "name": "p"}, {"name": NO_PARTS}),
+    ("circuitbooks", "circuit_text", {"circuit": (2, (("h", 0), ("turn", 3, 1)))}, {}),
+    ("webkinds", "is_web", {"thing": ROW}, {}),
+    (
+        "webkinds", "web_of", {"dots": (2, 0, 1), "ties": ((2, 0), (0, 1)), "ins": (1, 0), "outs": (2,)},
+        {
+            "dots": (None, 0, "", [], [2, 0, 1], (0, 0), (0, 10000), (0, -1), (0, True), (0, "1"), (0, (1,))),
+            "ties": (
+                None, 0, "", [], [(0, 1)], (0, 1), ([0, 1],), ((0, 0),), ((0, 3),), ((0,),), ((0, 1, 2),),
+                ((0, True),), ((False, 1),), ((0, 1), None), ((0, "1"),), ((0, 1), (1, 3)),
+            ),
+            "ins": (None, 0, "", [], [0], (0, 0), (3,), (True,), (None,), ((0,),), ("0",)),
+            "outs": (None, 0, "", [], [0], (0, 0), (3,), (True,), (None,), ((0,),), ("0",)),
+        },
+    ),
+    ("webkinds", "looked_of", {"web": ROW}, {}),
+    ("webkinds", "made_of", {"web": ROW}, {}),
+    ("webkinds", "inner_of", {"web": ROW}, {}),
+    ("webkinds", "near_of", {"web": ROW, "dot": 1}, {"dot": NO_DOTS_OF_ROW}),
+    ("webkinds", "is_even", {"web": ROW}, {}),
+    ("webchecker", "lets_web", {"thing": ROW}, {}),
+    ("oddlots", "lot_sum", {"one": (0, 3), "other": (3, 9999)}, {"other": NO_LOTS}),
+    ("oddlots", "odd_lot", {"web": ROW, "lot": (0, 1)}, {"lot": NO_LOTS_OF_ROW}),
+    ("oddlots", "ties_within", {"web": ROW, "lot": (0, 1)}, {"lot": NO_LOTS_OF_ROW}),
+    (
+        "oddlots", "is_even_into", {"web": ROW, "dot": 0, "lot": (0, 1)},
+        {"dot": NO_DOTS_OF_ROW, "lot": NO_LOTS_OF_ROW},
+    ),
+    (
+        "webchanges", "toggled", {"web": ROW, "one": 2, "other": 0},
+        {"one": NO_DOTS_OF_ROW, "other": NO_DOTS_OF_ROW + (2,)},
+    ),
+    ("webchanges", "with_dot", {"web": ROW, "dot": 9999}, {"dot": NO_INTEGERS + (-1, 0, 1, 2, 10000)}),
+    ("webchanges", "without_dot", {"web": ROW, "dot": 1}, {"dot": NO_DOTS_OF_ROW + (0, 2)}),
+    ("webchanges", "turned_web", {"web": ROW}, {}),
+    ("webchanges", "put_in", {"web": ROW, "lot": (1, 2)}, {"lot": NO_LOTS_OF_ROW + ((0,), (0, 1))}),
+    (
+        "webchanges", "renamed_web", {"web": ROW, "names": (5, 9999, 0)},
+        {"names": NEVER + ([5, 9, 0], (5, 9), (5, 9, 0, 1), (5, 5, 0), (5, 10000, 0), (5, -1, 0), (5, True, 0))},
+    ),
+    ("plankinds", "is_plan", {"thing": (ROW, (1, 2, 3))}, {}),
+    ("plankinds", "angle_of", {"plan": (ROW, (1, 2, 3)), "dot": 1}, {"dot": NO_DOTS_OF_ROW}),
+    (
+        "plankinds", "with_angle", {"plan": (ROW, (1, 2, 3)), "dot": 1, "turn": 7},
+        {"dot": NO_DOTS_OF_ROW, "turn": NO_TURNS},
+    ),
+    (
+        "plankinds", "more_angle", {"plan": (ROW, (1, 2, 3)), "lot": (0, 2), "turn": 7},
+        {"lot": NO_LOTS_OF_ROW, "turn": NO_TURNS},
+    ),
+    ("plankinds", "odd_angles", {"plan": (ROW, (1, 2, 3))}, {}),
+    ("plansums", "sums_of", {"plan": (TRI, (1, 2, 3))}, {}),
+    ("plansums", "map_of", {"plan": (TRI, (1, 2, 3))}, {}),
+    (
+        "alongsums", "sums_along", {"plan": (TRI, (1, 2, 3)), "dots": (1, 2, 0)},
+        {"dots": NEVER + ([1, 2, 0], (1, 2), (1, 2, 0, 3), (1, 1, 0), (1, 2, 2, 0), (1, 2, 3), (True, 2, 0))},
+    ),
+    (
+        "alongsums", "live_along", {"web": TRI, "dots": (1, 2, 0)},
+        {"dots": NEVER + ([1, 2, 0], (1, 2), (1, 2, 0, 3), (1, 1, 0), (1, 2, 2, 0), (1, 2, 3), (True, 2, 0))},
+    ),
+    (
+        "planjoins", "chained_plans", {"first": (ROW, (1, 2, 3)), "second": (TRI, (4, 5, 6))},
+        {"second": NO_PLANS + ((PLUS, (0, 0)), (EMPTY, ()))},
+    ),
+    ("planjoins", "beside_plans", {"low": (ROW, (1, 2, 3)), "high": (TRI, (4, 5, 6))}, {"high": NO_PLANS}),
+    ("planjoins", "turned_plan", {"plan": (ROW, (1, 2, 3))}, {}),
+    (
+        "planjoins", "renamed_plan", {"plan": (ROW, (1, 2, 3)), "names": (5, 9999, 0)},
+        {"names": NEVER + ([5, 9, 0], (5, 9), (5, 9, 0, 1), (5, 5, 0), (5, 10000, 0), (5, -1, 0), (5, True, 0))},
+    ),
+    ("circuitplans", "circuit_plan", {"circuit": (2, (("h", 0), ("cx", 0, 1)))}, {}),
+    ("plantexts", "plan_text", {"plan": (LINE, (1, 2, 3, 4))}, {}),
+    ("plantexts", "read_plan", {"text": "web\ndots 0\nties\nins 0\nouts 0\nangles 7\nend"}, {}),
+)
+
+
+def function_of(file, name):
+    return getattr(importlib.import_module(f"lookundone.{file}"), name)
+
+
+class ArgumentsTest(StrictCase):
+    def test_each_function_is_here(self):
+        from tests.test_interface import INTERFACE
+        listed = [(file, line.partition("(")[0]) for file, told in INTERFACE.items() for line in told]
+        self.assertEqual([(file, name) for file, name, _, _ in CASES], listed)
+
+    def test_each_later_parameter_is_asked(self):
+        # These take any value there; their other parameters are the first ones.
+        free = ("is_bits",)
+        first_too = ("table_of", "circuit_of", "web_of")
+        for _, name, good, wrong in CASES:
+            if name not in free:
+                self.assertEqual(list(wrong), list(good) if name in first_too else list(good)[1:], name)
+
+    def test_by_position_and_by_name(self):
+        for file, name, good, _ in CASES:
+            call = function_of(file, name)
+            arguments = copy.deepcopy(good)
+            found = call(**arguments)
+            self.same(call(*arguments.values()), found, name)
+            backwards = dict(reversed(list(arguments.items())))
+            self.same(call(**backwards), found, name)
+            self.assertEqual(repr(arguments), repr(good), name)
+
+    def test_wrong_parameters(self):
+        for file, name, good, wrong in CASES:
+            call = function_of(file, name)
+            for word, values in wrong.items():
+                for value in values:
+                    with self.subTest(name=name, word=word, value=value):
+                        arguments = {**good, word: value}
+                        kept = repr(arguments)
+                        self.refuses(word, call, **arguments)
+                        self.refuses(word, call, *arguments.values())
+                        self.assertEqual(repr(arguments), kept)
+
+    def test_the_first_wrong_parameter(self):
+        for file, name, good, wrong in CASES:
+            call = function_of(file, name)
+            for many in range(2, len(wrong) + 1):
+                for words in itertools.combinations(wrong, many):
+                    for k in range(max(len(wrong[word]) for word in words)):
+                        arguments = {word: wrong[word][k % len(wrong[word])] for word in words}
+                        with self.subTest(name=name, arguments=arguments):
+                            self.refuses(words[0], call, **{**good, **arguments})
