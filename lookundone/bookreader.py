@@ -8,7 +8,7 @@ def read_book(text):
     """The book that the text tells."""
     reader = Reader(words_of_text(text))
     parts = [take_part(reader)]
-    while reader.word() != TEXT_END:
+    while reader.here() != TEXT_END:
         parts.append(take_part(reader))
     return tuple(parts)
 
@@ -33,7 +33,7 @@ def take_part(reader):
     reader.expect("part")
     name = reader.take_name()
     wires = [take_wire(reader)]
-    while reader.word() != LINE_END:
+    while reader.here() != LINE_END:
         wires.append(take_wire(reader))
     return ("part", name, tuple(wires), take_block(reader))
 
@@ -41,7 +41,7 @@ def take_part(reader):
 def take_wire(reader):
     """The wire or bus that must stand at the reader, which passes it."""
     name = reader.take_name()
-    if reader.word() != "[":
+    if reader.here() != "[":
         return (name, 0)
     reader.take()
     width = reader.take_width()
@@ -53,7 +53,7 @@ def take_block(reader):
     """The lines between the end of a first line and the last line, which the reader passes."""
     reader.expect(LINE_END)
     lines = []
-    while reader.word() != "end":
+    while reader.here() != "end":
         lines.append(take_line(reader))
     reader.take()
     reader.expect(LINE_END)
@@ -62,7 +62,7 @@ def take_block(reader):
 
 def take_line(reader):
     """The line or block that must stand at the reader, which passes it."""
-    word = reader.word()
+    word = reader.here()
     if word in GATE_WIRES:
         return take_gate(reader)
     if word not in TAKERS:
@@ -83,7 +83,7 @@ def take_gate(reader):
 def take_w(reader):
     """The wire, item or bus that must stand at the reader, which passes it."""
     name = reader.take_name()
-    if reader.word() != "[":
+    if reader.here() != "[":
         return ("wire", name)
     reader.take()
     expr = take_expr(reader)
@@ -103,7 +103,7 @@ def take_use(reader):
     """The line that uses a part, behind its first word."""
     name = reader.take_name()
     ws = [take_w(reader)]
-    while reader.word() != LINE_END:
+    while reader.here() != LINE_END:
         ws.append(take_w(reader))
     reader.take()
     return ("use", name, tuple(ws))

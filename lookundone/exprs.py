@@ -22,7 +22,7 @@ def read_expr(text):
 def take_expr(reader):
     """The expr that must stand at the reader, which passes it."""
     expr = take_term(reader)
-    while reader.word() in SUM_KINDS:
+    while reader.here() in SUM_KINDS:
         kind = SUM_KINDS[reader.take()]
         expr = (kind, expr, take_term(reader))
     return expr
@@ -31,7 +31,7 @@ def take_expr(reader):
 def take_term(reader):
     """The term that must stand at the reader, which passes it."""
     term = take_atom(reader)
-    while reader.word() == "*":
+    while reader.here() == "*":
         reader.take()
         term = ("times", term, take_atom(reader))
     return term
@@ -39,7 +39,7 @@ def take_term(reader):
 
 def take_atom(reader):
     """The atom that must stand at the reader, which passes it."""
-    word = reader.word()
+    word = reader.here()
     if is_figures(word):
         return ("num", int(reader.take()))
     if word == "-":

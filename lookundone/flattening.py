@@ -44,7 +44,7 @@ def width_in_wires(width):
 
 def is_top(book, name):
     """True if name is that of a part whose wires a circuit can have."""
-    if not isinstance(name, str) or name not in part_names(book):
+    if name not in part_names(book):
         return False
     return sum(width_in_wires(wire[1]) for wire in part_named(book, name)[2]) <= GREATEST_WIRES
 

@@ -27,7 +27,8 @@ def plan_text(plan):
 
 def row_text(word, values):
     """A word, and the values behind it."""
-    return " ".join([word, *[str(part) for part in values]])
+    parts = [str(part) for part in values]
+    return " ".join([word, *parts])
 
 
 def read_plan(text):
@@ -46,14 +47,14 @@ def read_plan(text):
 
 def read_row(k, line, rows):
     """What line k tells behind the rows ahead of it, None if it can't stand there."""
-    word, *words = line.split(" ")
-    if k >= len(LINE_WORDS) or word != LINE_WORDS[k]:
+    words = line.split(" ")
+    if k >= len(LINE_WORDS) or words[0] != LINE_WORDS[k]:
         return None
     if k == 0 or k == 6:
-        return None if words else ()
+        return () if len(words) == 1 else None
     if k == 2:
-        return read_ties(words, rows[1])
-    values = tuple(number_of_word(part) for part in words)
+        return read_ties(words[1:], rows[1])
+    values = tuple(number_of_word(part) for part in words[1:])
     if k == 1:
         return values if is_lot(values) else None
     if k == 5:

@@ -14,10 +14,8 @@ def size_of(exact):
 def sign_of(whole, part):
     """1, 0 or -1 as whole + part r is above, at or below 0, r being the positive root of two."""
     need(is_integer(part), "part")
-    if whole >= 0 and part >= 0:
-        return 1 if whole or part else 0
-    if whole <= 0 and part <= 0:
-        return -1
-    # The signs are unlike: the greater square tells whose sign it is, and the squares are never the same.
+    if whole == 0 and part == 0:
+        return 0
+    # The sign is that of the one with the greater square; the squares are never the same.
     greater = whole if whole * whole > 2 * part * part else part
     return 1 if greater > 0 else -1

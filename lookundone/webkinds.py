@@ -84,11 +84,8 @@ def inner_of(web):
 def near_of(web, dot):
     """The lot of the dots tied to dot."""
     need(is_dot_of(web[0], dot), "dot")
-    near = []
-    for one, other in web[1]:
-        if dot in (one, other):
-            near.append(other if dot == one else one)
-    return tuple(sorted(near))
+    # The ties are ascending, so the dots found are, too.
+    return tuple(other if dot == one else one for one, other in web[1] if dot in (one, other))
 
 
 def is_even(web):

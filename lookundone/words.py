@@ -59,7 +59,7 @@ class Reader:
         self.words = words
         self.at = 0
 
-    def word(self):
+    def here(self):
         """The word at which it stands."""
         return self.words[self.at][0]
 
@@ -70,24 +70,24 @@ class Reader:
 
     def take(self):
         """The word at which it stands, which it passes."""
-        word = self.word()
+        word = self.here()
         self.at += 1
         return word
 
     def expect(self, word):
         """Pass this word, which must stand here."""
-        if self.word() != word:
+        if self.here() != word:
             self.refuse()
         self.at += 1
 
     def take_name(self):
         """The name that must stand here, which it passes."""
-        if not is_name_word(self.word()):
+        if not is_name_word(self.here()):
             self.refuse()
         return self.take()
 
     def take_width(self):
         """The width of a bus, which must stand here, and which it passes."""
-        if not is_figures(self.word()) or not 1 <= int(self.word()) <= GREATEST_BUS:
+        if not is_figures(self.here()) or not 1 <= int(self.here()) <= GREATEST_BUS:
             self.refuse()
         return int(self.take())

@@ -18,6 +18,10 @@ NO_WIRES = (0, 0, 0, (((1, 0, 0, 0),),))
 NEVER = (None, True, False, 0, 1, -1, 10 ** 59, "", "a", (), [], (None,), ((),), [()])
 
 
+# All signs of which strings consist, but for the newline.
+ALL_SIGNS = [chr(k) for k in range(32, 127) if chr(k) != "%"]
+
+
 def nested(deep, kind=tuple):
     """Tuples or lists nested so deep."""
     thing = kind()

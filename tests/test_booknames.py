@@ -1,7 +1,7 @@
 """[21], [22]: which values are names and books, and the names of parts."""
 
 from lookundone.booknames import is_book, is_name, part_names
-from tests.common import ANY_VALUES, StrictCase, wrong_places
+from tests.common import ALL_SIGNS, ANY_VALUES, StrictCase, wrong_places
 from tests.scores import KEPT, some_books
 
 ONE = ("num", 1)
@@ -37,6 +37,9 @@ class NamesTest(StrictCase):
             self.assertIs(is_name(thing), False, thing)
         for thing in ANY_VALUES:
             self.assertIs(is_name(thing), thing == "a", thing)
+        for sign in ALL_SIGNS:
+            self.assertIs(is_name(sign), sign.islower() and sign not in KEPT, sign)
+            self.assertIs(is_name("a" + sign), sign.islower() or sign.isdigit() or sign == "_", sign)
         for thing in (("a",), ["a"], 1, None, True):
             self.assertIs(is_name(thing), False)
 

@@ -4,7 +4,7 @@ import random
 
 from lookundone.datatexts import data_text, read_data
 from lookundone.errors import InvalidText
-from tests.common import StrictCase, nested
+from tests.common import ALL_SIGNS, StrictCase, nested
 from tests.oracles import Recogniser
 
 SIGNS = "0123456789-(), \"\nTrueFalsNoxa"
@@ -129,6 +129,11 @@ class DataTextTest(StrictCase):
                     changed.add(text[:k] + text[k + 1] + text[k] + text[k + 2:])
             for other in sorted(changed):
                 self.told(other, column_of_text(other))
+
+    def test_every_sign(self):
+        for sign in ALL_SIGNS:
+            for text in (sign, f"1{sign}", f"-{sign}", f"({sign}", f"(1{sign}", f"(1,{sign}", f'"{sign}"', f"T{sign}", f"0{sign}"):
+                self.told(text, column_of_text(text))
 
     def test_random_changes(self):
         chance = random.Random(7)

@@ -5,7 +5,7 @@ import random
 
 from lookundone.errors import BadScore, InvalidText
 from lookundone.exprs import expr_text, is_expr, read_expr, worth_of
-from tests.common import ANY_VALUES, StrictCase, nested, wrong_places
+from tests.common import ALL_SIGNS, ANY_VALUES, StrictCase, nested, wrong_places
 from tests.scores import KEPT, bad_column, full_text, some_expr
 
 A, B, C = ("var", "a"), ("var", "b"), ("var", "c")
@@ -65,6 +65,12 @@ class ReadExprTest(StrictCase):
             for other in changed:
                 for between in (" ", "  "):
                     self.told(between.join(other), bad_column(between.join(other)))
+
+
+    def test_every_sign(self):
+        for sign in ALL_SIGNS:
+            for text in (sign, "a" + sign, "1" + sign, sign + "1", f"a {sign} b"):
+                self.told(text, bad_column(text))
 
 
 class ExprTextTest(StrictCase):

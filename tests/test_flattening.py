@@ -180,6 +180,10 @@ class BadScoreTest(FlatCase):
         ))
         self.same(self.gates("times 0 / use p a / end", "a"), ())
 
+    def test_only_a_use_names_a_part(self):
+        self.same(self.gates("for p 1 to 2 / turn p p / end", "p"), (("turn", 1, 0), ("turn", 2, 0)))
+        self.same(self.gates("for f 1 to 1 / turn f f / end / use f f", "f", "part f p\nh p\nend"), (("turn", 1, 0), ("h", 0)))
+
     def test_name(self):
         self.bad_line("name", "h nope")
         self.bad_line("name", "h nope[0]")

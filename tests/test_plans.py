@@ -18,7 +18,7 @@ from lookundone.scaling import scaled
 from lookundone.tables import is_table, nought_table, one_table
 from lookundone.webchanges import renamed_web, turned_web
 from lookundone.webkinds import is_even, looked_of, made_of, near_of, web_of
-from tests.common import ANY_VALUES, EMPTY, LINE, PLUS, ROW, TRI, StrictCase, wrong_places
+from tests.common import ALL_SIGNS, ANY_VALUES, EMPTY, LINE, PLUS, ROW, TRI, StrictCase, wrong_places
 from tests.oracles import all_lots, sums_by_lots
 from tests.some_webs import some_plans, some_web, wide_web, with_angles
 from tests.test_circuits import all_gates, some_circuit
@@ -414,6 +414,14 @@ class PlanTextsTest(StrictCase):
                     changed[j], changed[k] = changed[k], changed[j]
                     self.refused("\n".join(changed), j)
                 self.refused("\n".join(lines[:k] + [""] + lines[k:]), k)
+
+    def test_every_sign(self):
+        for sign in ALL_SIGNS:
+            for k, line in enumerate(("web", "dots 1", "ties", "ins 1", "outs 1", "angles 1", "end")):
+                lines = plan_text((((1,), (), (1,), (1,)), (1,))).split("\n")
+                lines[k] = line + sign
+                # A figure more makes another dot, which the ins have not.
+                self.refused("\n".join(lines), k if k != 1 or not sign.isdigit() else 3)
 
     def test_a_blank_more(self):
         # No number in these has two figures, so that no blank makes two numbers of one.
