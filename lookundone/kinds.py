@@ -72,3 +72,15 @@ def is_bits(many, thing):
 def is_turns(many, thing):
     """True if thing is a tuple of many turns."""
     return is_tuple_of(many, thing) and all(is_turn(part) for part in thing)
+
+
+def are_rows_of_dots(wide, dots, thing):
+    """True if thing is a tuple of tuples of wide values, one for each of the dots, with the dot first, in sequence."""
+    if not is_tuple_of(len(dots), thing):
+        return False
+    return all(is_tuple_of(wide, row) and is_integer(row[0]) and row[0] == dot for dot, row in zip(dots, thing))
+
+
+def are_lots_of(dots, many, thing):
+    """True if thing is a tuple of many lots of some of the dots."""
+    return is_tuple_of(many, thing) and all(is_lot_of(dots, part) for part in thing)

@@ -13,6 +13,30 @@ def lot_sum(one, other):
     return tuple(sorted(alone))
 
 
+def sum_of_lots(lots):
+    """The lot of the dots that lie in an odd number of the lots."""
+    is_in = {}
+    for lot in lots:
+        for dot in lot:
+            is_in[dot] = not is_in.get(dot, False)
+    return tuple(sorted([dot for dot in is_in if is_in[dot]]))
+
+
+def near_rows(web):
+    """A dict with the row of bits of each dot's neighbours: place k of it is dot k of the web."""
+    bits = {dot: 1 << place for place, dot in enumerate(web[0])}
+    rows = {dot: 0 for dot in web[0]}
+    for one, other in web[1]:
+        rows[one] |= bits[other]
+        rows[other] |= bits[one]
+    return rows
+
+
+def row_of_lot(web, lot):
+    """The row of bits of a lot of the web's dots: place k of it is dot k of the web."""
+    return sum([1 << place for place, dot in enumerate(web[0]) if dot in lot])
+
+
 def odd_lot(web, lot):
     """The lot of the dots that are tied to an odd number of dots of the lot."""
     need(is_lot_of(web[0], lot), "lot")

@@ -1,5 +1,6 @@
 """Other ways to reckon what the package reckons: by fractions, by going through all cases, by a general reader."""
 
+import functools
 import itertools
 from fractions import Fraction
 
@@ -19,6 +20,7 @@ def total(rows):
     return tuple(sum(parts) for parts in zip((0, 0, 0, 0), *rows))
 
 
+@functools.cache
 def root_power(many):
     """r to the many, an integer of either sign."""
     found = (Fraction(1), Fraction(0), Fraction(0), Fraction(0))
@@ -30,8 +32,13 @@ def root_power(many):
 
 def unit_parts(turn):
     """w to the turn."""
+    return unit_power(turn % 8)
+
+
+@functools.cache
+def unit_power(turn):
     found = (1, 0, 0, 0)
-    for _ in range(turn % 8):
+    for _ in range(turn):
         found = product(found, (0, 1, 0, 0))
     return found
 

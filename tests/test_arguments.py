@@ -4,7 +4,9 @@ import copy
 import importlib
 import itertools
 
-from tests.common import EMPTY, H, LINE, NEVER, NO_WIRES, ONE_WIRE, PLUS, ROW, TRI, TWO, StrictCase
+from tests.common import (
+    EMPTY, H, HALF, LINE, NEVER, NO_WIRES, ONE_WIRE, PLUS, ROW, SEEN, STEP, TRI, TWICE, TWO, StrictCase,
+)
 
 EXACT = (3, -1, 0, 2)
 NO_INTEGERS = (None, True, False, "1", "", (), (1,), [1])
@@ -44,6 +46,58 @@ NO_WORTHS = (
     None, 1, "i", [("i", 1)], (("i", 1), ["i", 1]), ("i", 1), (("i",),), (("i", 1, 1),), (("i", True),),
     (("i", "1"),), ((1, 1),), (("I", 1),), (("end", 1),), (("", 1),), (("i", None),), (("abcdefghijklm", 1),), {},
 )
+NO_PROGRAMS = NEVER + (
+    list(STEP), STEP[:3], STEP + ((),), ([0],) + STEP[1:], ((True,),) + STEP[1:], ((0, 0),) + STEP[1:],
+    (STEP[0], [1], *STEP[2:]), (STEP[0], (0,), *STEP[2:]), (STEP[0], (True,), *STEP[2:]), (STEP[0], (), *STEP[2:]),
+    (*STEP[:2], list(STEP[2]), STEP[3]), (*STEP[:2], STEP[2][1:], STEP[3]), (*STEP[:2], STEP[2] + STEP[2], STEP[3]),
+    (*STEP[:2], STEP[2][:3] + (("flip", 1, (1,)),), STEP[3]), (*STEP[:2], STEP[2][:3] + (("flip", 1, [0]),), STEP[3]),
+    (*STEP[:3], [0]), (*STEP[:3], (8,)), (*STEP[:3], (False,)), (*STEP[:3], ()), (*STEP[:3], (0, 0)),
+)
+NO_BITS_OF_TWO = (
+    None, 0, 1, (), (0,), (0, 0, 0), (0, 2), (2, 0), (0, -1), (0, True), (False, 0), [0, 0], (0, "0"), (0, None), "00",
+)
+NO_TURNS_OF_TWO = (
+    None, 0, 1, (), (0,), (0, 0, 0), (0, 8), (8, 0), (0, -1), (0, True), (False, 0), [0, 0], (0, "0"), (0, None), "00",
+)
+NO_NAMES_OF_THREE = NEVER + (
+    [5, 9, 0], (5, 9), (5, 9, 0, 1), (5, 5, 0), (5, 10000, 0), (5, -1, 0), (5, True, 0), (5, "9", 0),
+)
+STATE = ((0, 5), ((3, 1),), (2, 0, 0, (((1, 0, 0, 0),), ((0, 1, 0, 0),), ((2, 0, 0, 0),), ((0, 0, 3, 0),))))
+NO_COMMANDS = NEVER + (
+    ["look", 5, 1, (3,), ()], ("look", 5, 1, (3,)), ("look", 5, 1, (3,), (), ()), ("look", 5, 8, (3,), ()),
+    ("look", 5, True, (3,), ()), ("look", 5, 1, [3], ()), ("look", 5, 1, (3,), [3]), ("look", 5, 1, (3, 3), ()),
+    ("look", 4, 1, (3,), ()), ("look", 3, 1, (), ()), ("look", 5, 1, (5,), ()), ("look", 5, 1, (), (0,)),
+    ("look", 5, 1, (4,), ()), ("Look", 5, 1, (3,), ()), ("new", 5), ("new", 3), ("new", 10000), ("new", True), ("new",),
+    ("new", 4, 6), ("tie", 0, 3), ("tie", 0, 4), ("tie", 5, 0), ("tie", 0, 0), ("tie", 0), ("tie", False, 5),
+    ("flip", 3, ()), ("flip", 4, ()), ("flip", 0, (5,)), ("flip", 0, (4,)), ("flip", 0, 3), ("flip", 0),
+    ("sign", 3, ()), ("sign", 0, (0,)), ("sign", 0, [3]), ("sign", 0, (True,)), ("sign", 0, (), ()),
+)
+NO_ACCOUNTS = NEVER + (
+    list(HALF), HALF[:4], HALF + ((),), HALF[:2], (EMPTY, *HALF[1:]), (ROW, [1, 2, 0], *HALF[2:]),
+    (ROW, (1, 2), *HALF[2:]), (ROW, (1, 2, True), *HALF[2:]), (*HALF[:2], [(), (0,)], *HALF[3:]),
+    (*HALF[:2], ((),), *HALF[3:]), (*HALF[:2], ((), (0,), ()), *HALF[3:]), (*HALF[:2], ((1,), (0,)), *HALF[3:]),
+    (*HALF[:2], ((0,), ()), *HALF[3:]), (*HALF[:2], ((), [0]), *HALF[3:]), (*HALF[:2], ((), (2,)), *HALF[3:]),
+    (*HALF[:2], ((), (False,)), *HALF[3:]), (*HALF[:3], ((2,),), HALF[4]), (*HALF[:3], ((1, 0),), HALF[4]),
+    (*HALF[:3], (), HALF[4]), (*HALF[:3], (1,), HALF[4]), (*HALF[:4], ((2,),)), (*HALF[:4], ((), ())), (*HALF[:4], [()]),
+)
+NO_STEPS = NEVER + (
+    ["shift", 5], ("shift",), ("shift", 5, 0), ("shift", True), ("shift", 4), ("shift", 7), ("shift", -2), ("shift", "5"),
+    ("swap", False), ("swap", True), ("swap", 0), ("swap", 6), ("swap", 7), ("swap", -1), ("drop", 6), ("into", 2),
+    ("Swap", 2), (None, 2), (("swap",), 2), (2, "swap"), ("swap", None), ("swap", [2]), ("cancel", 1), ("join", 5),
+    ("past", 5), ("swap", 10 ** 30),
+)
+ROWS = (3, 5, 6, 0, 2 ** 79)
+ARROWS = ((0, 1), (0, 2), (1, 2))
+NO_ARROWS = (
+    None, True, 0, "", [], [(0, 1)], (0, 1), ([0, 1],), ((0,),), ((0, 1, 2),), ((0, 3),), ((3, 0),), ((0, 10000),),
+    ((0, -1),), ((0, True),), ((False, 1),), ((0, "1"),), ((0, 1), (0, 1)), ((0, 2), (0, 1)), ((1, 0), (0, 1)), (None,),
+)
+NO_FLOWS_OF_ROW = NEVER + (
+    [(0, (1,)), (1, (2,))], ((0, (1,)),), ((1, (2,)), (0, (1,))), ((0, (1,)), (1, (2,)), (2, ())), ([0, (1,)], (1, (2,))),
+    ((0, [1]), (1, (2,))), ((False, (1,)), (1, (2,))), ((0, (1,)), (True, (2,))), ((0, (1, 2)), (1, (2,))),
+    ((0, (True,)), (1, (2,))), ((0, (1,)), (1, (0,))), ((0, ()), (1, (2,))), ((0, (1,)), (1, (0, 2))), ((0, 1), (1, 2)),
+)
+NO_TELLING_OF_TRI = NO_LOTS + ((), (0,), (1,), (2,), (0, 2), (0, 1, 2), [0, 1], (False, 1), (0, True), (3,))
 
 # Each case: the file, the function, its arguments, and wrong values of the parameters that are asked for.
 CASES = (
@@ -220,6 +274,108 @@ CASES = (
     ("circuitplans", "circuit_plan", {"circuit": (2, (("h", 0), ("cx", 0, 1)))}, {}),
     ("plantexts", "plan_text", {"plan": (LINE, (1, 2, 3, 4))}, {}),
     ("plantexts", "read_plan", {"text": "web\ndots 0\nties\nins 0\nouts 0\nangles 7\nend"}, {}),
+    ("programchecker", "is_program", {"thing": TWICE}, {}),
+    ("programchecker", "lets_program", {"thing": TWICE}, {}),
+    ("programkinds", "looks_of", {"program": TWICE}, {}),
+    ("programkinds", "dots_of", {"program": TWICE}, {}),
+    ("programkinds", "live_counts", {"program": TWICE}, {}),
+    ("programkinds", "with_turns", {"program": TWICE, "turns": (7, 0)}, {"turns": NO_TURNS_OF_TWO}),
+    ("states", "state_start", {"ins": (4, 0)}, {}),
+    (
+        "states", "state_after", {"state": STATE, "command": ("look", 5, 1, (3,), ()), "bit": 1},
+        {"command": NO_COMMANDS, "bit": NO_INTEGERS + (-1, 2, 10 ** 30)},
+    ),
+    ("branches", "branch_of", {"program": TWICE, "outcomes": (1, 0)}, {"outcomes": NO_BITS_OF_TWO}),
+    ("branches", "branches_of", {"program": TWICE}, {}),
+    ("branches", "chance_of", {"program": TWICE, "outcomes": (1, 0)}, {"outcomes": NO_BITS_OF_TWO}),
+    ("rightness", "is_right", {"program": TWICE}, {}),
+    ("rightness", "mapped", {"program": STEP}, {}),
+    ("rightness", "right_at", {"program": TWICE, "turns": (7, 0)}, {"turns": NO_TURNS_OF_TWO}),
+    ("compiling", "compiled", {"circuit": (2, (("h", 0), ("cx", 0, 1)))}, {}),
+    ("plainprograms", "plain_program", {"plan": (ROW, (1, 2, 3))}, {}),
+    # With turns that are not 0 the first program is not usable, though it is as stated.
+    (
+        "programjoins", "chained_programs", {"first": STEP, "second": TWICE},
+        {
+            "first": (TWICE[:3] + ((1,),), STEP[:3] + ((7,),)),
+            "second": NO_PROGRAMS + (((), (), (), ()), ((0, 1), (1, 0), (), (0, 0))),
+        },
+    ),
+    ("programjoins", "beside_programs", {"low": STEP, "high": TWICE}, {"high": NO_PROGRAMS}),
+    ("programjoins", "renamed_program", {"program": TWICE, "names": (5, 9999, 0)}, {"names": NO_NAMES_OF_THREE}),
+    ("programtexts", "program_text", {"program": TWICE}, {}),
+    ("programtexts", "read_program", {"text": "program\nins 0\nlook 0 7 waits adds\nouts\nturns\nend"}, {}),
+    ("accountkinds", "is_account", {"thing": HALF}, {}),
+    ("accountkinds", "plan_in", {"account": HALF}, {}),
+    ("accountkinds", "waits_at", {"account": HALF, "dot": 1}, {"dot": NO_DOTS_OF_ROW + (2,)}),
+    ("accountkinds", "arrows_in", {"account": HALF}, {}),
+    ("accounts", "account_of", {"program": TWICE}, {}),
+    ("accounts", "names_of", {"program": TWICE}, {}),
+    ("newoutcomes", "new_outcomes", {"program": TWICE, "outcomes": (1, 0)}, {"outcomes": NO_BITS_OF_TWO}),
+    ("newoutcomes", "old_outcomes", {"program": TWICE, "outcomes": (1, 0)}, {"outcomes": NO_BITS_OF_TWO}),
+    ("accountbranches", "account_branch", {"account": HALF, "outcomes": (1, 0)}, {"outcomes": NO_BITS_OF_TWO}),
+    ("accountbranches", "account_right", {"account": HALF}, {}),
+    ("standards", "program_of", {"account": HALF}, {}),
+    ("standards", "standard_of", {"program": TWICE}, {}),
+    ("standards", "apart_of", {"one": HALF, "other": (*HALF[:4], ((),))}, {"other": NO_ACCOUNTS}),
+    ("steps", "steps_of", {"program": TWICE}, {}),
+    ("steps", "step_done", {"program": TWICE, "step": ("shift", 5)}, {"step": NO_STEPS}),
+    (
+        "steps", "step_outcomes", {"program": TWICE, "step": ("shift", 5), "outcomes": (1, 0)},
+        {"step": NO_STEPS, "outcomes": NO_BITS_OF_TWO},
+    ),
+    ("leading", "standard_steps", {"program": TWICE}, {}),
+    ("leading", "led_together", {"one": TWICE, "other": STEP}, {"other": NO_PROGRAMS}),
+    ("stepchecker", "lets_steps", {"program": TWICE, "thing": (("swap", 2), ("shift", 5))}, {}),
+    ("bitrows", "parity", {"number": 11}, {}),
+    ("bitrows", "places_of", {"number": 11}, {}),
+    ("bitrows", "number_of_places", {"places": (0, 79)}, {}),
+    ("bitrows", "sum_of_rows", {"rows": ROWS}, {}),
+    ("solving", "solve_rows", {"rows": ROWS, "target": 6}, {"target": NO_INTEGERS + (-1,)}),
+    ("solving", "lets_solved", {"rows": ROWS, "target": 6, "thing": ("sum", (0, 1))}, {"target": NO_INTEGERS + (-1,)}),
+    ("kernels", "kernel_of", {"rows": ROWS}, {}),
+    ("kernels", "rank_of", {"rows": ROWS}, {}),
+    # Rows that are too great are not usable, though they are rows.
+    ("squares", "inverse_rows", {"rows": (2, 3)}, {"rows": ((2,), (4, 1), (1, 4), (0, 2 ** 80), (1, 2, 8))}),
+    (
+        "squares", "product_rows", {"rows": (3, 4, 0), "others": (1, 2, 4)},
+        {"others": NEVER + ([1, 2, 4], (1, 2), (1,), (1, 2, True), (False, 2, 4), (1, -2, 4), (1, "2", 4), (1, (2,), 4))},
+    ),
+    ("squares", "flipped_rows", {"rows": (3, 4, 0), "wide": 3}, {"wide": NO_INTEGERS + (-1,)}),
+    ("arrowkinds", "is_arrows", {"thing": ARROWS}, {}),
+    ("arrowkinds", "dots_in", {"arrows": ARROWS}, {}),
+    ("arrowkinds", "arrows_back", {"arrows": ARROWS}, {}),
+    ("heights", "heights_of", {"dots": (0, 1, 2), "arrows": ARROWS}, {"arrows": NO_ARROWS}),
+    (
+        "heights", "longest_chain", {"dots": (0, 1, 2), "arrows": ARROWS},
+        {"arrows": NO_ARROWS + (((0, 0),), ((0, 1), (1, 0)))},
+    ),
+    ("rings", "shortest_ring", {"dots": (0, 1, 2), "arrows": ARROWS}, {"arrows": NO_ARROWS}),
+    ("linear", "linear_of", {"dots": (0, 1, 2), "arrows": ARROWS}, {"arrows": NO_ARROWS}),
+    ("linear", "keeps_arrows", {"order": (2, 0, 1), "arrows": ARROWS}, {"arrows": NO_ARROWS}),
+    ("linear", "linears_of", {"dots": (0, 1, 2), "arrows": ARROWS[:1]}, {"arrows": NO_ARROWS}),
+    ("linear", "come_from", {"arrows": ARROWS, "dot": 9999}, {"dot": NO_INTEGERS + (-1, 10000)}),
+    ("flowkinds", "is_flow", {"web": ROW, "thing": ((0, (1,)), (1, (2,)))}, {}),
+    ("flowkinds", "lets_flow", {"web": ROW, "thing": ((0, (1,)), (1, (2,)))}, {}),
+    ("flowkinds", "arrows_of", {"web": ROW, "flow": ((0, (1,)), (1, (2,)))}, {"flow": NO_FLOWS_OF_ROW}),
+    ("flowkinds", "flow_rounds", {"web": ROW, "flow": ((0, (1,)), (1, (2,)))}, {"flow": NO_FLOWS_OF_ROW}),
+    (
+        "focusing", "focused", {"web": ROW, "order": (0, 1), "lots": ((1, 2), (2,))},
+        {
+            "order": NEVER + ([0, 1], (0,), (1,), (0, 1, 2), (0, 2), (0, 0), (False, 1), (0, True), (0, "1"), (0, 3)),
+            "lots": (None, True, 0, "", "ab", (), [], ((1, 2),), [(1, 2), (2,)], ((1, 2), (2,), (2,)), (((1, 2), (2,)),)),
+        },
+    ),
+    ("tellinglots", "lets_telling", {"web": TRI, "thing": (0, 1)}, {}),
+    ("tellinglots", "is_idle", {"web": TRI, "lot": (0, 1)}, {"lot": NO_TELLING_OF_TRI}),
+    ("tellinglots", "told_angles", {"web": TRI, "lot": (0, 1)}, {"lot": NO_TELLING_OF_TRI}),
+    (
+        "tellinglots", "told_sign", {"web": SEEN, "lot": (1,)},
+        {"lot": NO_LOTS + ((), (0,), (0, 1), (2,), [1], (True,), ((1,),))},
+    ),
+    ("telling", "telling_lots", {"web": TRI}, {}),
+    ("telling", "kind_of", {"web": TRI}, {}),
+    ("layers", "layers_of", {"web": ROW}, {}),
 )
 
 
@@ -236,9 +392,12 @@ class ArgumentsTest(StrictCase):
     def test_each_later_parameter_is_asked(self):
         # These take any value there; their other parameters are the first ones.
         free = ("is_bits",)
-        first_too = ("table_of", "circuit_of", "web_of")
+        first_too = ("table_of", "circuit_of", "web_of", "chained_programs", "inverse_rows")
+        checkers = ("lets_solved", "lets_steps", "is_flow", "lets_flow", "lets_telling")
         for _, name, good, wrong in CASES:
-            if name not in free:
+            if name in checkers:
+                self.assertEqual(list(wrong), [word for word in list(good)[1:] if word != "thing"], name)
+            elif name not in free:
                 self.assertEqual(list(wrong), list(good) if name in first_too else list(good)[1:], name)
 
     def test_by_position_and_by_name(self):

@@ -3,7 +3,7 @@
 import unittest
 
 from lookundone import errors
-from tests.common import H, LINE, PLUS, ROW, TRI
+from tests.common import FAIR, H, HALF, LINE, PLUS, ROW, SEEN, STEP, TRI, TWICE
 
 # Each example: the names to import, as file and name, what is evaluated, and what is printed.
 EXAMPLES = (
@@ -79,12 +79,83 @@ EXAMPLES = (
     ),
     ("plantexts", 'plan_text((PLUS, (1, 0)))', "'web\\ndots 0 1\\nties 0-1\\nins\\nouts 1\\nangles 1 0\\nend'"),
     ("plantexts", 'read_plan("web\\ndots 0 1\\nties 0-2")', 'raises InvalidText(2, 0)'),
+    (
+        "programchecker",
+        'lets_program(((0,), (1,), (("new", 1), ("look", 0, 0, (0,), ())), (0,)))',
+        "raises InvalidPaper('lot', 1)",
+    ),
+    ("programkinds", 'live_counts(STEP)', '(2, 2, 1, 1)'),
+    (
+        "states",
+        'state_after(state_start((4,)), ("look", 4, 1, (), ()), 1)',
+        '((), ((4, 1),), (0, 1, 1, (((1, 0, 0, 0), (0, 0, 0, 1)),)))',
+    ),
+    ("branches", 'branch_of(STEP, (1,))', '(1, 1, 2, (((1, 0, 0, 0), (0, 1, 0, 0)), ((1, 0, 0, 0), (0, -1, 0, 0))))'),
+    ("rightness", 'mapped((STEP[0], STEP[1], STEP[2][:3], STEP[3]))', 'raises NotRight((1,))'),
+    ("compiling", 'compiled((1, (("turn", 1, 0), ("h", 0)))) == STEP', 'True'),
+    (
+        "programtexts",
+        'program_text(STEP)',
+        "'program\\nins 0\\nnew 1\\ntie 0 1\\nlook 0 7 waits adds\\nflip 1 by 0\\nouts 1\\nturns 0\\nend'",
+    ),
+    ("accountkinds", 'is_account(HALF), arrows_in(HALF), waits_at(HALF, 1)', '(True, ((0, 1),), (0,))'),
+    ("accountkinds", 'is_account((ROW, (1, 2, 0), ((1,), (0,)), ((1,),), ((0,),)))', 'False'),
+    ("accounts", 'names_of(TWICE)', '((0, (0,)), (1, (0, 1)))'),
+    ("accounts", 'account_of(TWICE) == (ROW, (1, 2, 0), ((), (0,)), ((0, 1),), ((),))', 'True'),
+    ("newoutcomes", 'new_outcomes(TWICE, (1, 0)), old_outcomes(TWICE, (1, 1))', '((1, 1), (1, 0))'),
+    (
+        "accounts accountbranches",
+        'account_branch(account_of(STEP), (1,))',
+        '(1, 1, 2, (((1, 0, 0, 0), (0, 1, 0, 0)), ((1, 0, 0, 0), (0, -1, 0, 0))))',
+    ),
+    (
+        "standards",
+        'standard_of(TWICE)[2][2:]',
+        "(('tie', 0, 1), ('tie', 1, 2), ('look', 0, 1, (), ()), ('look', 1, 2, (0,), ()), ('flip', 2, (0, 1)))",
+    ),
+    (
+        "accounts standards",
+        'apart_of(account_of(STEP), account_of(TWICE)), apart_of(HALF, account_of(TWICE))',
+        "('outs', ('flip', 2))",
+    ),
+    ("steps", 'steps_of(TWICE)', "(('shift', 5), ('swap', 2))"),
+    ("steps", 'step_done(TWICE, ("shift", 5))[2][5:]', "(('look', 1, 2, (0,), ()), ('flip', 2, (0, 1)))"),
+    ("steps", 'step_outcomes(TWICE, ("shift", 5), (1, 0))', '(1, 1)'),
+    (
+        "stepchecker standards",
+        'lets_steps(TWICE, (("swap", 2), ("swap", 1), ("swap", 3), ("shift", 5))) == standard_of(TWICE)',
+        'True',
+    ),
+    ("leading", 'led_together(TWICE, STEP)', "('apart', 'outs')"),
+    ("solving", 'solve_rows((3, 5), 6)', "('sum', (0, 1))"),
+    ("squares", 'inverse_rows((2, 3))', '(3, 1)'),
+    ("flowkinds", 'lets_flow(ROW, ((0, (1,)), (1, (2,)))), is_flow(ROW, ((0, (1, 2)), (1, (2,))))', '(2, False)'),
+    (
+        "flowkinds",
+        'arrows_of(ROW, ((0, (1,)), (1, (2,)))), flow_rounds(ROW, ((0, (1,)), (1, (2,))))',
+        '(((0, 1),), ((0, 1), (1, 2)))',
+    ),
+    ("focusing", 'focused(ROW, (0, 1), ((1, 2), (2,)))', '((0, (1,)), (1, (2,)))'),
+    (
+        "tellinglots",
+        'is_idle(SEEN, (1,)), told_angles(SEEN, (1,)), told_sign(SEEN, (1,))',
+        '(False, ((1, 0),), ((0,), 0))',
+    ),
+    (
+        "telling",
+        'telling_lots(TRI), kind_of(SEEN), kind_of(FAIR), kind_of(((0,), (), (), ()))',
+        "(((0, 1),), 'telling', 'fair', 'idle')",
+    ),
+    ("layers", 'layers_of(ROW), layers_of(TRI)', '(((2,), (1, 2), (0, 1, 2)), ((2,),))'),
 )
 
 
 def names_of(files):
     """All names of these files of the package, and the webs of the document."""
-    names = {"H": H, "LINE": LINE, "PLUS": PLUS, "ROW": ROW, "TRI": TRI}
+    names = {
+        "FAIR": FAIR, "H": H, "HALF": HALF, "LINE": LINE, "PLUS": PLUS, "ROW": ROW, "SEEN": SEEN, "STEP": STEP,
+        "TRI": TRI, "TWICE": TWICE,
+    }
     for name in files.split():
         names.update(vars(__import__(f"lookundone.{name}", fromlist=[name])))
     return names
