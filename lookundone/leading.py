@@ -124,11 +124,12 @@ class Leader:
         if self.command(place)[2] == ():
             self.do("drop", place)
             return
+        # The looks at the dots of its lot stand ahead of it, so it never comes to the first place.
         key = self.correction_key(place)
-        while place > 0 and self.is_correction_at(place - 1) and self.correction_key(place - 1) > key:
+        while self.is_correction_at(place - 1) and self.correction_key(place - 1) > key:
             place -= 1
             self.do("swap", place)
-        if place > 0 and self.is_correction_at(place - 1) and self.correction_key(place - 1) == key:
+        if self.is_correction_at(place - 1) and self.correction_key(place - 1) == key:
             place -= 1
             self.do("join", place)
             if self.command(place)[2] == ():

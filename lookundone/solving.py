@@ -60,7 +60,7 @@ def solve_rows(rows, target):
 def lets_solved(rows, target, thing):
     """The first value of thing, a sum or a bar."""
     need(is_number(target), "target")
-    if not (is_tuple_of(2, thing) and isinstance(thing[0], str) and thing[0] in ("sum", "bar")):
+    if not (is_tuple_of(2, thing) and thing[0] in ("sum", "bar")):
         raise InvalidPaper("shape", -1)
     word, told = thing
     if word == "sum":

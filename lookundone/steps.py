@@ -7,7 +7,6 @@ from lookundone.programkinds import CORRECTIONS, looks_of, lots_in, named_dots, 
 
 # All words of steps, as Python sorts.
 STEP_WORDS = ("cancel", "drop", "into", "join", "past", "shift", "swap")
-LONE_WORDS = ("drop", "shift")
 
 
 def steps_of(program):
@@ -44,7 +43,8 @@ def fits(commands, word, place):
 
 def can_swap(one, other):
     """True if the two commands can change places by a swap."""
-    if is_needed_by(one, other) or is_needed_by(other, one):
+    # The other way round it can't be: lots have only dots that were looked at ahead.
+    if one[0] == "look" and any(one[1] in lot for lot in lots_in(other)):
         return False
     words = (one[0], other[0])
     if words in (("tie", "tie"), ("tie", "sign"), ("sign", "tie")):
@@ -52,11 +52,6 @@ def can_swap(one, other):
     if words[0] in CORRECTIONS and words[1] in CORRECTIONS:
         return True
     return not any(dot in named_dots(other) for dot in named_dots(one))
-
-
-def is_needed_by(one, other):
-    """True if one is a look at a dot that is in a lot of other."""
-    return one[0] == "look" and any(one[1] in lot for lot in lots_in(other))
 
 
 def commands_behind(commands, word, place):
@@ -99,7 +94,7 @@ def in_place_of_two(word, one, other):
 
 def is_step(program, thing):
     """True if thing is a step of the program."""
-    if not (is_tuple_of(2, thing) and isinstance(thing[0], str) and thing[0] in STEP_WORDS):
+    if not (is_tuple_of(2, thing) and thing[0] in STEP_WORDS):
         return False
     return is_number_below(len(program[2]), thing[1]) and fits(program[2], thing[0], thing[1])
 
