@@ -1,7 +1,7 @@
 """All telling lots of a web, and what kind of web it is."""
 
-from lookundone.layers import has_flow
 from lookundone.oddlots import near_rows, row_of_lot
+from lookundone.shutlots import has_flow
 from lookundone.tellinglots import is_idle
 from lookundone.webkinds import looked_of, made_of
 

@@ -99,6 +99,11 @@ NO_FLOWS_OF_ROW = NEVER + (
 )
 NO_TELLING_OF_TRI = NO_LOTS + ((), (0,), (1,), (2,), (0, 2), (0, 1, 2), [0, 1], (False, 1), (0, True), (3,))
 
+NO_ORDERS_OF_ROW = NEVER + ([0, 1], (0,), (1,), (0, 1, 2), (0, 2), (0, 0), (False, 1), (0, True), (0, "1"), (0, 3))
+NO_TRUTHS = tuple(thing for thing in NEVER if not isinstance(thing, bool)) + ([True], (False,), "True")
+ROW_PLAN = (ROW, (1, 2, 0))
+ROW_FLOW = ((0, (1,)), (1, (2,)))
+
 # Each case: the file, the function, its arguments, and wrong values of the parameters that are asked for.
 CASES = (
     ("kinds", "is_integer", {"thing": 1}, {}),
@@ -375,12 +380,62 @@ CASES = (
     ),
     ("telling", "telling_lots", {"web": TRI}, {}),
     ("telling", "kind_of", {"web": TRI}, {}),
+    ("shutlots", "shut_of", {"web": TRI}, {}),
+    ("shutlots", "lets_shut", {"web": TRI, "thing": ((0, 1), ((0, (0, 1)), (1, (0, 1))))}, {}),
+    ("shutlots", "lets_paper", {"web": TRI, "thing": ("telling", (0, 1))}, {}),
+    ("settling", "settle", {"web": TRI}, {}),
+    ("settling", "flow_of", {"web": ROW}, {}),
     ("layers", "layers_of", {"web": ROW}, {}),
+    ("layers", "fewest_rounds", {"web": ROW}, {}),
+    ("layers", "fewest_flow", {"web": ROW}, {}),
+    ("floors", "floors_of", {"web": LINE}, {}),
+    ("floors", "lets_floors", {"web": ROW, "thing": ((0, 2, (0,)), (1, 1, ()))}, {}),
+    ("widening", "widened", {"web": PLUS}, {}),
+    ("chains", "chain_of", {"web": LINE}, {}),
+    ("orders", "allowed", {"web": ROW, "order": (1, 0)}, {"order": NO_ORDERS_OF_ROW}),
+    ("orders", "is_let", {"web": ROW, "order": (1, 0)}, {"order": NO_ORDERS_OF_ROW}),
+    (
+        "orders", "lets_allowed", {"web": ROW, "order": (1, 0), "thing": ("barred", 1, (0,))},
+        {"order": NO_ORDERS_OF_ROW},
+    ),
+    ("rightaccounts", "right_account", {"plan": ROW_PLAN, "flow": ROW_FLOW}, {"flow": NO_FLOWS_OF_ROW}),
+    ("rightaccounts", "right_program", {"plan": ROW_PLAN, "flow": ROW_FLOW}, {"flow": NO_FLOWS_OF_ROW}),
+    ("rightaccounts", "wrong_lot", {"account": (*HALF[:4], ((),))}, {}),
+    ("rightaccounts", "flow_in", {"account": HALF}, {}),
+    ("quicks", "quick_account", {"plan": ROW_PLAN, "flow": ROW_FLOW}, {"flow": NO_FLOWS_OF_ROW}),
+    ("quicks", "quick_program", {"plan": ROW_PLAN, "flow": ROW_FLOW}, {"flow": NO_FLOWS_OF_ROW}),
+    ("lookrounds", "rounds_by", {"account": HALF}, {}),
+    ("lookrounds", "many_rounds", {"account": HALF}, {}),
+    (
+        "machines", "Machine", {"plan": ROW_PLAN, "flow": ROW_FLOW, "fast": True},
+        {"plan": NO_PLANS, "flow": NO_FLOWS_OF_ROW, "fast": NO_TRUTHS},
+    ),
+    ("lazyruns", "lazy_events", {"web": ROW, "order": (1, 0)}, {"order": NO_ORDERS_OF_ROW}),
+    (
+        "lazyruns", "lazy_run", {"plan": ROW_PLAN, "flow": ROW_FLOW, "fast": False, "order": (0, 1), "outcomes": (1, 0)},
+        {
+            "flow": NO_FLOWS_OF_ROW, "fast": NO_TRUTHS, "order": NO_ORDERS_OF_ROW + ((1, 0),),
+            "outcomes": NO_BITS_OF_TWO,
+        },
+    ),
+    ("livecounts", "live_at", {"web": ROW, "order": (1, 0)}, {"order": NO_ORDERS_OF_ROW}),
+    ("livecounts", "peak_of", {"web": ROW, "order": (1, 0)}, {"order": NO_ORDERS_OF_ROW}),
+    ("leastpeaks", "least_peak", {"account": HALF}, {}),
+    ("leastpeaks", "lets_peak", {"account": HALF, "thing": (2, (0, 1), ("family", ((),)))}, {}),
 )
 
 
 def function_of(file, name):
     return getattr(importlib.import_module(f"lookundone.{file}"), name)
+
+
+def shown(thing):
+    """The thing, or all that an object keeps, told by tuples."""
+    if isinstance(thing, dict):
+        return tuple((key, shown(value)) for key, value in thing.items())
+    if isinstance(thing, list):
+        return ("list", *map(shown, thing))
+    return (type(thing).__name__, shown(vars(thing))) if hasattr(thing, "__dict__") else thing
 
 
 class ArgumentsTest(StrictCase):
@@ -392,8 +447,11 @@ class ArgumentsTest(StrictCase):
     def test_each_later_parameter_is_asked(self):
         # These take any value there; their other parameters are the first ones.
         free = ("is_bits",)
-        first_too = ("table_of", "circuit_of", "web_of", "chained_programs", "inverse_rows")
-        checkers = ("lets_solved", "lets_steps", "is_flow", "lets_flow", "lets_telling")
+        first_too = ("table_of", "circuit_of", "web_of", "chained_programs", "inverse_rows", "Machine")
+        checkers = (
+            "lets_solved", "lets_steps", "is_flow", "lets_flow", "lets_telling", "lets_shut", "lets_paper", "lets_floors",
+            "lets_allowed", "lets_peak",
+        )
         for _, name, good, wrong in CASES:
             if name in checkers:
                 self.assertEqual(list(wrong), [word for word in list(good)[1:] if word != "thing"], name)
@@ -404,10 +462,10 @@ class ArgumentsTest(StrictCase):
         for file, name, good, _ in CASES:
             call = function_of(file, name)
             arguments = copy.deepcopy(good)
-            found = call(**arguments)
-            self.same(call(*arguments.values()), found, name)
+            found = shown(call(**arguments))
+            self.same(shown(call(*arguments.values())), found, name)
             backwards = dict(reversed(list(arguments.items())))
-            self.same(call(**backwards), found, name)
+            self.same(shown(call(**backwards)), found, name)
             self.assertEqual(repr(arguments), repr(good), name)
 
     def test_wrong_parameters(self):

@@ -5,6 +5,9 @@ import unittest
 from lookundone import errors
 from tests.common import FAIR, H, HALF, LINE, PLUS, ROW, SEEN, STEP, TRI, TWICE
 
+PLAN = (ROW, (1, 2, 0))
+FLOW = ((0, (1,)), (1, (2,)))
+
 # Each example: the names to import, as file and name, what is evaluated, and what is printed.
 EXAMPLES = (
     ("kinds", 'is_lot((0, 3)), is_lot((3, 0)), is_bits(2, (0, True)), is_bits(0, ())', '(True, False, False, True)'),
@@ -146,14 +149,46 @@ EXAMPLES = (
         'telling_lots(TRI), kind_of(SEEN), kind_of(FAIR), kind_of(((0,), (), (), ()))',
         "(((0, 1),), 'telling', 'fair', 'idle')",
     ),
-    ("layers", 'layers_of(ROW), layers_of(TRI)', '(((2,), (1, 2), (0, 1, 2)), ((2,),))'),
+    ("shutlots", 'shut_of(TRI)', '((0, 1), ((0, (0, 1)), (1, (0, 1))))'),
+    ("settling", 'settle(TRI)', "('telling', (0, 1))"),
+    ("settling", 'flow_of(TRI)', "raises NoFlow(('telling', (0, 1)))"),
+    (
+        "layers", 'layers_of(ROW), fewest_rounds(ROW), layers_of(TRI)',
+        '(((2,), (1, 2), (0, 1, 2)), 2, ((2,),))',
+    ),
+    ("floors", 'floors_of(ROW)', '((0, 2, (0,)), (1, 1, ()))'),
+    ("widening", 'widened(PLUS)', '(0,)'),
+    ("orders", 'allowed(ROW, (1, 0)), is_let(ROW, (0, 1))', "(('barred', 1, (0,)), True)"),
+    ("rightaccounts", 'right_account(PLAN, FLOW)[2:]', '(((), (0,)), ((1,),), ((0,),))'),
+    ("rightaccounts", 'wrong_lot((ROW, (1, 2, 0), ((), (0,)), ((1,),), ((),)))', "('sign', 0)"),
+    ("quicks", 'quick_account(PLAN, FLOW)[2:]', '(((), ()), ((0, 1),), ((0,),))'),
+    (
+        "lookrounds rightaccounts quicks",
+        'rounds_by(right_account(PLAN, FLOW)), many_rounds(quick_account(PLAN, FLOW))', '(((0, 1), (1, 2)), 1)',
+    ),
+    (
+        "machines",
+        '(lambda run: (run.tell(0, 1), (run.angle(1), run.ready()), run.tell(1, 0), run.ended()))('
+        'Machine(PLAN, FLOW, False))',
+        '(None, (6, (1,)), None, ((0,), (1,), (0,)))',
+    ),
+    (
+        "lazyruns", 'lazy_events(ROW, (0, 1))',
+        "(('new', 1), ('tie', 0, 1), ('look', 0), ('new', 2), ('tie', 1, 2), ('look', 1))",
+    ),
+    (
+        "lazyruns scaling tables",
+        'lazy_run((ROW, (0, 0, 0)), FLOW, False, (0, 1), (1, 0)) == scaled(one_table(1), -2)', 'True',
+    ),
+    ("livecounts", 'live_at(ROW, (0, 1)), live_at(ROW, (1, 0)), peak_of(ROW, (1, 0))', '((2, 2), (3, 2), 3)'),
+    ("leastpeaks rightaccounts", 'least_peak(right_account(PLAN, FLOW))', "(2, (0, 1), ('family', ((),)))"),
 )
 
 
 def names_of(files):
     """All names of these files of the package, and the webs of the document."""
     names = {
-        "FAIR": FAIR, "H": H, "HALF": HALF, "LINE": LINE, "PLUS": PLUS, "ROW": ROW, "SEEN": SEEN, "STEP": STEP,
+        "FAIR": FAIR, "FLOW": FLOW, "H": H, "HALF": HALF, "LINE": LINE, "PLAN": PLAN, "PLUS": PLUS, "ROW": ROW, "SEEN": SEEN, "STEP": STEP,
         "TRI": TRI, "TWICE": TWICE,
     }
     for name in files.split():

@@ -93,7 +93,25 @@ INTERFACE = {
     "focusing": ("focused(web, order, lots)",),
     "tellinglots": ("lets_telling(web, thing)", "is_idle(web, lot)", "told_angles(web, lot)", "told_sign(web, lot)"),
     "telling": ("telling_lots(web)", "kind_of(web)"),
-    "layers": ("layers_of(web)",),
+    "shutlots": ("shut_of(web)", "lets_shut(web, thing)", "lets_paper(web, thing)"),
+    "settling": ("settle(web)", "flow_of(web)"),
+    "layers": ("layers_of(web)", "fewest_rounds(web)", "fewest_flow(web)"),
+    "floors": ("floors_of(web)", "lets_floors(web, thing)"),
+    "widening": ("widened(web)",),
+    "chains": ("chain_of(web)",),
+    "orders": ("allowed(web, order)", "is_let(web, order)", "lets_allowed(web, order, thing)"),
+    "rightaccounts": (
+        "right_account(plan, flow)", "right_program(plan, flow)", "wrong_lot(account)", "flow_in(account)",
+    ),
+    "quicks": ("quick_account(plan, flow)", "quick_program(plan, flow)"),
+    "lookrounds": ("rounds_by(account)", "many_rounds(account)"),
+    "machines": ("Machine(plan, flow, fast)",),
+    "lazyruns": ("lazy_events(web, order)", "lazy_run(plan, flow, fast, order, outcomes)"),
+    "livecounts": ("live_at(web, order)", "peak_of(web, order)"),
+    "leastpeaks": ("least_peak(account)", "lets_peak(account, thing)"),
+}
+METHODS = {
+    "machines Machine": ("ready()", "left()", "told()", "angle(dot)", "tell(dot, bit)", "ended()"),
 }
 
 
@@ -107,6 +125,16 @@ class InterfaceTest(unittest.TestCase):
                 self.assertEqual(name + str(inspect.signature(function)), line)
                 self.assertEqual(function.__module__, f"lookundone.{file}")
                 self.assertEqual(function.__name__, name)
+
+    def test_methods_stand_in_their_classes(self):
+        for place, told in METHODS.items():
+            file, owner = place.split()
+            methods = vars(getattr(importlib.import_module(f"lookundone.{file}"), owner))
+            for line in told:
+                name, _, parameters = line.partition("(")
+                own = "(self)" if parameters == ")" else f"(self, {parameters}"
+                self.assertTrue(inspect.isfunction(methods[name]))
+                self.assertEqual(str(inspect.signature(methods[name])), own)
 
 
 if __name__ == "__main__":

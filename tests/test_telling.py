@@ -6,7 +6,7 @@ import random
 from lookundone.branches import branches_of, chance_of
 from lookundone.circuitplans import circuit_plan
 from lookundone.errors import InvalidPaper
-from lookundone.layers import has_flow, layers_of
+from lookundone.layers import layers_of
 from lookundone.likeness import number_of, square_of
 from lookundone.oddlots import odd_lot, ties_within
 from lookundone.plainprograms import plain_program
@@ -14,6 +14,7 @@ from lookundone.plankinds import plan_with
 from lookundone.plansums import sums_of
 from lookundone.products import added
 from lookundone.scaling import negative, scaled
+from lookundone.shutlots import has_flow
 from lookundone.tables import entry_at, nought_table, one_table
 from lookundone.telling import kind_of, telling_lots
 from lookundone.tellinglots import is_idle, lets_telling, told_angles, told_sign
