@@ -2,7 +2,7 @@
 
 from lookundone.errors import need
 from lookundone.kinds import is_dot, is_dots, is_lot_of
-from lookundone.webkinds import inner_of, is_dot_of, made_of, web_of
+from lookundone.webkinds import inner_of, is_dot_of, made_of, odd_ties, web_of
 
 
 def toggled(web, one, other):
@@ -51,3 +51,11 @@ def renamed_web(web, names):
     new_ins = tuple(new_names[dot] for dot in ins)
     new_outs = tuple(new_names[dot] for dot in outs)
     return web_of(names, new_ties, new_ins, new_outs)
+
+
+def retied(web, gone, pairs):
+    """The web without the dots of gone and their ties, with the ties of these pairs toggled; ins and outs stay."""
+    dots, ties, ins, outs = web
+    left = tuple(dot for dot in dots if dot not in gone)
+    left_ties = [(one, other) for one, other in ties if one not in gone and other not in gone]
+    return (left, odd_ties([*left_ties, *pairs]), ins, outs)

@@ -103,6 +103,16 @@ NO_ORDERS_OF_ROW = NEVER + ([0, 1], (0,), (1,), (0, 1, 2), (0, 2), (0, 0), (Fals
 NO_TRUTHS = tuple(thing for thing in NEVER if not isinstance(thing, bool)) + ([True], (False,), "True")
 ROW_PLAN = (ROW, (1, 2, 0))
 ROW_FLOW = ((0, (1,)), (1, (2,)))
+ROW_SECRETS = ((3, 1), (0, 0))
+LINE_PLAN = (LINE, (1, 4, 0, 5))
+NO_RULES = NEVER + (
+    ["halves", 1, 2], ("halves", True, 2), ("halves", 2, 1), ("halves", 1), ("quarter", 1), ("merge", True, 2, 0),
+    ("merge", 1, 2, False), ("merge", 1, 0, 2), ("Halves", 1, 2), (("halves", 1, 2),), ("halves", 1, "2"), (1, 2),
+)
+NO_SECRETS_OF_ROW = NEVER + (
+    list(ROW_SECRETS), ROW_SECRETS[:1], ROW_SECRETS + ((0, 0),), ([3, 1], (0, 0)), ((3, 1), (0, 2)), ((8, 1), (0, 0)),
+    ((-1, 1), (0, 0)), ((3, True), (0, 0)), ((True, 1), (0, 0)), ((3, 1, 0), (0, 0)), ((3, 1), (0, "0")), (3, 1), ((3, 1), ()),
+)
 
 # Each case: the file, the function, its arguments, and wrong values of the parameters that are asked for.
 CASES = (
@@ -422,6 +432,68 @@ CASES = (
     ("livecounts", "peak_of", {"web": ROW, "order": (1, 0)}, {"order": NO_ORDERS_OF_ROW}),
     ("leastpeaks", "least_peak", {"account": HALF}, {}),
     ("leastpeaks", "lets_peak", {"account": HALF, "thing": (2, (0, 1), ("family", ((),)))}, {}),
+    ("lies", "lied", {"plan": ROW_PLAN, "lot": (0, 1)}, {"lot": NO_LOTS_OF_ROW + ((2,), (0, 2))}),
+    (
+        "lies", "shown_for", {"account": HALF, "outcomes": (1, 0), "lot": (0,)},
+        {"outcomes": NO_BITS_OF_TWO, "lot": NO_LOTS_OF_ROW + ((2,), (0, 2))},
+    ),
+    ("quarters", "quarter_done", {"plan": ROW_PLAN, "dot": 1}, {"dot": NO_DOTS_OF_ROW + (0, 2)}),
+    (
+        "halves", "halves_done", {"plan": LINE_PLAN, "one": 1, "other": 2},
+        {"one": NO_INTEGERS + (-1, 0, 2, 3, 4, 9999), "other": NO_INTEGERS + (-1, 0, 1, 3, 4, 9999)},
+    ),
+    (
+        "merges", "merge_done", {"plan": LINE_PLAN, "dot": 1, "inner": 2, "other": 0},
+        {
+            "dot": NO_INTEGERS + (-1, 0, 3, 4, 9999), "inner": NO_INTEGERS + (-1, 0, 1, 3, 4, 9999),
+            "other": NO_INTEGERS + (-1, 1, 2, 3, 4, 9999),
+        },
+    ),
+    ("rules", "rules_of", {"plan": LINE_PLAN}, {}),
+    ("rules", "rule_done", {"plan": LINE_PLAN, "rule": ("merge", 1, 2, 0)}, {"rule": NO_RULES}),
+    ("shortening", "shortened", {"plan": LINE_PLAN}, {}),
+    ("shortening", "lets_rules", {"plan": LINE_PLAN, "thing": (("merge", 1, 2, 0),)}, {}),
+    ("bounds", "odd_inner", {"plan": LINE_PLAN}, {}),
+    ("bounds", "most_left", {"plan": LINE_PLAN}, {}),
+    ("backing", "circuit_back", {"plan": LINE_PLAN}, {}),
+    ("backing", "shorter_circuit", {"circuit": (2, (("h", 0), ("cx", 0, 1)))}, {}),
+    ("samemaps", "maps_alike", {"first": ROW_PLAN, "second": LINE_PLAN}, {"second": NO_PLANS}),
+    ("secrets", "is_secrets", {"web": ROW, "thing": ROW_SECRETS}, {}),
+    ("secrets", "sent_turns", {"web": ROW, "secrets": ROW_SECRETS}, {"secrets": NO_SECRETS_OF_ROW}),
+    (
+        "clients", "Client", {"plan": ROW_PLAN, "flow": ROW_FLOW, "secrets": ROW_SECRETS},
+        {"plan": NO_PLANS, "flow": NO_FLOWS_OF_ROW, "secrets": NO_SECRETS_OF_ROW},
+    ),
+    ("workers", "Worker", {"web": ROW, "sent": (3, 0)}, {"web": NO_WEBS, "sent": NO_TURNS_OF_TWO}),
+    (
+        "seenby", "secrets_for",
+        {"plan": ROW_PLAN, "flow": ROW_FLOW, "order": (0, 1), "asked": (1, 7), "answers": (0, 1)},
+        {
+            "flow": NO_FLOWS_OF_ROW, "order": NO_ORDERS_OF_ROW + ((1, 0),), "asked": NO_TURNS_OF_TWO,
+            "answers": NO_BITS_OF_TWO,
+        },
+    ),
+    (
+        "seenby", "sent_sum", {"web": ROW, "secrets": (ROW_SECRETS, ROW_SECRETS)},
+        {"secrets": (None, True, 0, "", [], ROW_SECRETS, [ROW_SECRETS], (list(ROW_SECRETS),), (ROW_SECRETS, ()), ((),))},
+    ),
+    (
+        "blindruns", "asked_turns",
+        {"plan": ROW_PLAN, "flow": ROW_FLOW, "order": (0, 1), "secrets": ROW_SECRETS, "answers": (0, 1)},
+        {
+            "flow": NO_FLOWS_OF_ROW, "order": NO_ORDERS_OF_ROW + ((1, 0),), "secrets": NO_SECRETS_OF_ROW,
+            "answers": NO_BITS_OF_TWO,
+        },
+    ),
+    (
+        "blindruns", "blind_table",
+        {"plan": ROW_PLAN, "flow": ROW_FLOW, "order": (0, 1), "secrets": ROW_SECRETS, "answers": (0, 1)},
+        {
+            "flow": NO_FLOWS_OF_ROW, "order": NO_ORDERS_OF_ROW + ((1, 0),), "secrets": NO_SECRETS_OF_ROW,
+            "answers": NO_BITS_OF_TWO,
+        },
+    ),
+    ("desk", "Desk", {}, {}),
 )
 
 
@@ -431,11 +503,16 @@ def function_of(file, name):
 
 def shown(thing):
     """The thing, or all that an object keeps, told by tuples."""
+    return (type(thing).__name__, kept_in(vars(thing))) if hasattr(thing, "__dict__") else thing
+
+
+def kept_in(thing):
+    """What an object keeps, dicts and lists told by tuples."""
     if isinstance(thing, dict):
-        return tuple((key, shown(value)) for key, value in thing.items())
-    if isinstance(thing, list):
-        return ("list", *map(shown, thing))
-    return (type(thing).__name__, shown(vars(thing))) if hasattr(thing, "__dict__") else thing
+        return ("dict", *[(key, kept_in(value)) for key, value in thing.items()])
+    if isinstance(thing, (list, tuple)):
+        return (type(thing).__name__, *map(kept_in, thing))
+    return shown(thing)
 
 
 class ArgumentsTest(StrictCase):
@@ -447,10 +524,10 @@ class ArgumentsTest(StrictCase):
     def test_each_later_parameter_is_asked(self):
         # These take any value there; their other parameters are the first ones.
         free = ("is_bits",)
-        first_too = ("table_of", "circuit_of", "web_of", "chained_programs", "inverse_rows", "Machine")
+        first_too = ("table_of", "circuit_of", "web_of", "chained_programs", "inverse_rows", "Machine", "Client", "Worker")
         checkers = (
             "lets_solved", "lets_steps", "is_flow", "lets_flow", "lets_telling", "lets_shut", "lets_paper", "lets_floors",
-            "lets_allowed", "lets_peak",
+            "lets_allowed", "lets_peak", "lets_rules", "is_secrets",
         )
         for _, name, good, wrong in CASES:
             if name in checkers:

@@ -182,6 +182,47 @@ EXAMPLES = (
     ),
     ("livecounts", 'live_at(ROW, (0, 1)), live_at(ROW, (1, 0)), peak_of(ROW, (1, 0))', '((2, 2), (3, 2), 3)'),
     ("leastpeaks rightaccounts", 'least_peak(right_account(PLAN, FLOW))', "(2, (0, 1), ('family', ((),)))"),
+    (
+        "lies rightaccounts", 'lied(PLAN, (1,))[1], shown_for(right_account(PLAN, FLOW), (1, 0), (1,))',
+        '((1, 6, 0), (1, 1))',
+    ),
+    ("quarters", 'quarter_done((ROW, (0, 2, 0)), 1)', '((((0, 2), ((0, 2),), (0,), (2,)), (6, 6)), 7)'),
+    ("halves", 'halves_done((LINE, (0, 4, 0, 0)), 1, 2)', '((((0, 3), ((0, 3),), (0,), (3,)), (0, 4)), 0)'),
+    ("merges", 'merge_done((LINE, (1, 4, 3, 5)), 1, 2, 0)', '((((0, 3), ((0, 3),), (0,), (3,)), (6, 1)), 5)'),
+    ("rules", 'rules_of((LINE, (1, 4, 0, 5)))', "(('halves', 1, 2), ('merge', 1, 2, 0), ('merge', 2, 1, 3))"),
+    (
+        "shortening", 'shortened((LINE, (1, 6, 2, 5)))',
+        "((((0, 2, 3), ((0, 2), (2, 3)), (0,), (3,)), (3, 4, 5)), (('quarter', 1),), 1)",
+    ),
+    (
+        "backing", 'circuit_back((ROW, (1, 2, 3)))',
+        "(1, (('turn', 7, 0), ('h', 0), ('turn', 6, 0), ('h', 0), ('turn', 5, 0)))",
+    ),
+    (
+        "backing", 'circuit_back((((0, 1, 2, 3), ((0, 2), (1, 2), (1, 3)), (0, 1), (2, 3)), (0, 0, 0, 0)))',
+        "(2, (('h', 1), ('h', 0), ('cx', 0, 1)))",
+    ),
+    (
+        "clients",
+        '(lambda client: ((client.sends(), client.ready(), client.asks(0), client.hears(0, 0)), '
+        '(client.asks(1), client.hears(1, 1), client.ended())))'
+        '(Client((ROW, (1, 2, 0)), ((0, (1,)), (1, (2,))), ((3, 1), (0, 0))))',
+        '((((0, 3), (1, 0)), (0,), 0, None), (6, None, ((1,), (1,), (0,))))',
+    ),
+    (
+        "workers",
+        '(lambda worker: (worker.held(), (worker.looks(0, 1, 0), worker.outs_table())))(Worker(PLUS, (1,)))',
+        '((2, 0, 2, (((1, 0, 0, 0),), ((0, 1, 0, 0),), ((1, 0, 0, 0),), ((0, -1, 0, 0),))), '
+        '(None, (1, 0, 1, (((1, 0, 0, 0),), ((0, 0, 0, 0),)))))',
+    ),
+    ("seenby", 'secrets_for((PLUS, (0, 0)), ((0, (1,)),), (0,), (1,), (0,))', '(((1, 0),), ((5, 1),))'),
+    (
+        "seenby", 'sent_sum(PLUS, (((1, 0),), ((5, 1),)))',
+        '(1, 1, 0, (((2, 0, 0, 0), (0, 0, 0, 0)), ((0, 0, 0, 0), (2, 0, 0, 0))))',
+    ),
+    (
+        "desk", 'Desk().say("load web / dots 0 / ties / ins 0 / outs 0 / angles 1 / end")', "'dots 1'",
+    ),
 )
 
 

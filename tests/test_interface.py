@@ -109,9 +109,29 @@ INTERFACE = {
     "lazyruns": ("lazy_events(web, order)", "lazy_run(plan, flow, fast, order, outcomes)"),
     "livecounts": ("live_at(web, order)", "peak_of(web, order)"),
     "leastpeaks": ("least_peak(account)", "lets_peak(account, thing)"),
+    "lies": ("lied(plan, lot)", "shown_for(account, outcomes, lot)"),
+    "quarters": ("quarter_done(plan, dot)",),
+    "halves": ("halves_done(plan, one, other)",),
+    "merges": ("merge_done(plan, dot, inner, other)",),
+    "rules": ("rules_of(plan)", "rule_done(plan, rule)"),
+    "shortening": ("shortened(plan)", "lets_rules(plan, thing)"),
+    "bounds": ("odd_inner(plan)", "most_left(plan)"),
+    "backing": ("circuit_back(plan)", "shorter_circuit(circuit)"),
+    "samemaps": ("maps_alike(first, second)",),
+    "secrets": ("is_secrets(web, thing)", "sent_turns(web, secrets)"),
+    "clients": ("Client(plan, flow, secrets)",),
+    "workers": ("Worker(web, sent)",),
+    "seenby": ("secrets_for(plan, flow, order, asked, answers)", "sent_sum(web, secrets)"),
+    "blindruns": (
+        "asked_turns(plan, flow, order, secrets, answers)", "blind_table(plan, flow, order, secrets, answers)",
+    ),
+    "desk": ("Desk()",),
 }
 METHODS = {
     "machines Machine": ("ready()", "left()", "told()", "angle(dot)", "tell(dot, bit)", "ended()"),
+    "clients Client": ("sends()", "left()", "ready()", "asks(dot)", "hears(dot, bit)", "ended()"),
+    "workers Worker": ("looks(dot, turn, bit)", "left()", "held()", "outs_table()"),
+    "desk Desk": ("say(line)",),
 }
 
 
