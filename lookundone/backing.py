@@ -21,10 +21,6 @@ class Backing:
         """The wire of an out."""
         return self.web[3].index(out)
 
-    def toggle(self, pairs):
-        """Toggle the ties of these pairs."""
-        self.web = retied(self.web, (), pairs)
-
     def take_turns(self):
         """Take the turns at the outs."""
         for wire, out in enumerate(self.web[3]):
@@ -37,7 +33,7 @@ class Backing:
         outs = self.web[3]
         pairs = [(j, k) for k in range(len(outs)) for j in range(k) if outs[j] in near_of(self.web, outs[k])]
         self.found.extend([("cz", j, k) for j, k in sorted(pairs)])
-        self.toggle([(outs[j], outs[k]) for j, k in pairs])
+        self.web = retied(self.web, (), [(outs[j], outs[k]) for j, k in pairs])
 
     def take_look(self):
         """Take the look at the least dot that is led by outs alone: it becomes an out."""
@@ -45,10 +41,9 @@ class Backing:
         dot, lot = [(one, led) for one, led in flow_of(self.web) if all(other in outs for other in led)][0]
         gone, *others = lot
         wire = self.wire_of(gone)
-        for other in others:
-            self.found.append(("cx", wire, self.wire_of(other)))
-            self.toggle([(gone, far) for far in near_of(self.web, other)])
+        self.found.extend([("cx", wire, self.wire_of(other)) for other in others])
         self.found.append(("h", wire))
+        # The ties that each cx toggles all go with this out.
         dots, ties, _, _ = retied(self.web, (gone,), [])
         self.web = (dots, ties, ins, (*outs[:wire], dot, *outs[wire + 1:]))
 

@@ -34,7 +34,7 @@ class Client:
 
     def asks(self, dot):
         """The turn asked at dot."""
-        need(is_dot_of(list(self.secrets), dot), "dot")
+        # The machine refuses what is no looked dot, or not ready.
         angle = self.machine.angle(dot)
         turn, bit = self.secrets[dot]
         return (angle + turn + 4 * bit) % 8

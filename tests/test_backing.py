@@ -88,13 +88,23 @@ class CircuitBackTest(StrictCase):
         for web in (TRI, SEEN, ((0,), (), (), ()), ((4, 5), ((4, 5),), (), ())):
             self.raises(NoFlow, {"paper": settle(web)}, circuit_back, (web, (1,) * len(web[0])))
 
-    def test_six_wires(self):
+    def test_four_to_six_wires(self):
         chance = random.Random(826)
-        for k in range(4):
-            circuit = some_circuit(chance, 6, 14)
+        for k in range(9):
+            circuit = some_circuit(chance, 4 + k % 3, 14)
             plan = circuit_plan(circuit)
             found = circuit_back(plan)
             self.same(plain_table(found), plain_table(circuit))
+            if len(looked_of(plan[0])) <= 6:
+                self.same(found, circuit_plainly(plan))
+        # Outs tied to each other, all of them, and in another sequence than the ins.
+        for wires in (4, 5, 6):
+            dots = tuple(range(wires))
+            ties = tuple((j, k) for k in dots for j in range(k))
+            web = (dots, tuple(sorted(ties)), dots, tuple(chance.sample(dots, wires)))
+            plan = with_angles(chance, web)
+            self.same(circuit_back(plan), circuit_plainly(plan))
+            self.same(plain_table(circuit_back(plan)), map_of(plan))
 
 
 class ShorterTest(StrictCase):
